@@ -1,0 +1,1 @@
+"""Tapers: how the sides of a fishing net are cut, evenly."""
