@@ -1,21 +1,22 @@
-"""The least uneven rows that lead to a goal.
+"""How uneven a row is, and the least uneven rows that lead to a goal.
 
 A place is a tuple: how deep, how far in. A row walks from (0, 0) to its goal,
 and each of its beginnings ends at a place. As how uneven a row is depends on
-these places alone, places are gone through here, not rows, of which there are
-far more.
+these places alone, best goes through places, not rows, of which there are far
+more.
 """
 
 from netcuts.refusals import LEADS_ELSEWHERE, OUT_OF_BOUNDS
-from netcuts.rows import DEPTHS, WAYS_IN
+from netcuts.rows import DEPTHS, WAYS_IN, how_deep, how_far_in, is_row
 
 START = (0, 0)
-FARTHEST = 10
+FARTHEST_BEST = 10
+FARTHEST_CHECKED = 1000
 
 
 def best(depth, way_in):
     """Answers the call best: how uneven, how many rows, the earliest of them."""
-    if depth > FARTHEST or way_in > FARTHEST:
+    if depth > FARTHEST_BEST or way_in > FARTHEST_BEST:
         return [OUT_OF_BOUNDS]
     goal = (depth, way_in)
     uneven = least_uneven(goal)
@@ -23,6 +24,17 @@ def best(depth, way_in):
         return [LEADS_ELSEWHERE]
     counts = count_onward(goal, uneven)
     return [uneven, counts[START]] + earliest_row(goal, counts)
+
+
+def check(depth, way_in, cuts):
+    """Answers the call check: how uneven the row is, or where else it leads."""
+    if not is_row(cuts) or depth > FARTHEST_CHECKED or way_in > FARTHEST_CHECKED:
+        return [OUT_OF_BOUNDS]
+    goal = (depth, way_in)
+    end = (how_deep(cuts), how_far_in(cuts))
+    if end != goal:
+        return [LEADS_ELSEWHERE, end[0], end[1]]
+    return [how_uneven(cuts, goal)]
 
 
 def off_line(place, goal):
@@ -42,6 +54,16 @@ def places_back(goal):
 def places_onward(place):
     """Where each cut leads from the place, in the order of the cuts' numbers."""
     return [(place[0] + depth, place[1] + way_in) for depth, way_in in zip(DEPTHS, WAYS_IN)]
+
+
+def how_uneven(row, goal):
+    """The farthest from even that any beginning of the row is."""
+    place = START
+    uneven = off_line(place, goal)
+    for cut in row:
+        place = places_onward(place)[cut]
+        uneven = max(uneven, off_line(place, goal))
+    return uneven
 
 
 def least_uneven(goal):

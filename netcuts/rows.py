@@ -19,3 +19,15 @@ def how_deep(row):
 
 def how_far_in(row):
     return sum([WAYS_IN[cut] for cut in row])
+
+
+def ways_in_by_depth(row):
+    """How far in the row is at each depth, from 0 to its own."""
+    ways_in = []
+    way_in = 0
+    for cut in row:
+        # Above the depth that a cut leads to, the row is only as far in as before that cut.
+        ways_in.extend([way_in] * DEPTHS[cut])
+        way_in = way_in + WAYS_IN[cut]
+    ways_in.append(way_in)
+    return ways_in

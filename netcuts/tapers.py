@@ -1,12 +1,16 @@
 """The interface: a line of calls about one panel, and their answers."""
 
-from netcuts.evenness import best
+from netcuts.evenness import best, check
 from netcuts.panel import Panel
+from netcuts.units import unit
 
 BEGINS = 0
 LEFT = 1
 RIGHT = 2
 BEST = 3
+CHECK = 4
+UNIT = 5
+WIDTHS = 6
 
 
 class UnknownCall(ValueError):
@@ -48,6 +52,14 @@ def answer(panel, line):
         depth = line.take_number()
         way_in = line.take_number()
         return best(depth, way_in)
+    if call == CHECK:
+        depth = line.take_number()
+        way_in = line.take_number()
+        return check(depth, way_in, line.take_row())
+    if call == UNIT:
+        return unit(line.take_row())
+    if call == WIDTHS:
+        return panel.widths()
     raise UnknownCall(f"no call has the number {call}")
 
 

@@ -2,7 +2,7 @@
 
 import unittest
 
-from tests.lines import GREATEST, NO_ROW, REFUSED, ask, best, best_by_search, every_row_by_goal
+from tests.lines import GREATEST, NO_ROW, REFUSED, ask, best, best_by_search
 
 
 class Best(unittest.TestCase):
@@ -45,8 +45,6 @@ class Best(unittest.TestCase):
         self.best_answers(11, GREATEST, REFUSED)
 
     def test_all_goals_against_every_row(self):
-        rows = every_row_by_goal()
         for depth in range(11):
             for way_in in range(11):
-                there = rows.get((depth, way_in), [])
-                self.best_answers(depth, way_in, best_by_search(there, depth, way_in))
+                self.best_answers(depth, way_in, best_by_search(depth, way_in))

@@ -48,6 +48,26 @@ def bound_names(tree):
             yield node.attr
 
 
+def top_names(tree):
+    """The names that a file itself gives a meaning at its top."""
+    defs = {node.name for node in tree.body if isinstance(node, (ast.FunctionDef, ast.ClassDef))}
+    return defs | {node.targets[0].id for node in tree.body if isinstance(node, ast.Assign)}
+
+
+def drawn_files(tree):
+    return {node.module.split(".")[1] + ".py" for node in tree.body if isinstance(node, ast.ImportFrom)}
+
+
+def local_names(tree):
+    """The parameters and locals of all functions."""
+    names = {node.arg for node in ast.walk(tree) if isinstance(node, ast.arg)}
+    for part in ast.walk(tree):
+        if isinstance(part, ast.FunctionDef):
+            stored = [node for node in ast.walk(part) if isinstance(node, ast.Name)]
+            names |= {node.id for node in stored if isinstance(node.ctx, ast.Store)}
+    return names
+
+
 def methods_and_values(trees):
     """The names of all methods, and of all values that an object is given."""
     methods, values = set(), set()
@@ -112,6 +132,26 @@ class Language(unittest.TestCase):
             self.assertEqual(node.level, 0, where)
             self.assertRegex(node.module, r"\Anetcuts\.[a-z_]+\Z", where)
             self.assertNotIn("*", [part.name for part in node.names], where)
+
+    def test_a_name_is_drawn_from_the_file_that_defines_it(self):
+        for node, where in self.each_node(ast.ImportFrom):
+            tree = self.trees[node.module.split(".")[1] + ".py"]
+            self.assertLessEqual({part.name for part in node.names}, top_names(tree), where)
+
+    def test_no_two_files_draw_from_one_another(self):
+        drawn = {name: drawn_files(tree) for name, tree in self.trees.items()}
+        while drawn:
+            free = [name for name, files in drawn.items() if not files & drawn.keys()]
+            self.assertNotEqual(free, [], f"a ring among {sorted(drawn)}")
+            for name in free:
+                del drawn[name]
+
+    def test_no_local_is_called_like_an_import_or_a_class(self):
+        for name, tree in self.trees.items():
+            classes = {node.name for node in tree.body if isinstance(node, ast.ClassDef)}
+            drawn = {part.name for node in tree.body if isinstance(node, ast.ImportFrom) for part in node.names}
+            with self.subTest(file=name):
+                self.assertEqual(local_names(tree) & (classes | drawn), set())
 
     def test_names(self):
         for name, tree in self.trees.items():
